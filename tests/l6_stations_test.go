@@ -409,26 +409,32 @@ func TestErrorOfRefuses(t *testing.T) {
 	}
 }
 
-// TestTreeLegsHaveNoError has lists of all lengths, with few stations, among which rings are
-// common, with many ones, and with those that hang apart; it counts what the lists have.
-func TestTreeLegsHaveNoError(t *testing.T) {
-	n, counts := numbers{11}, map[string]int{}
-	for i := range 1800 {
+// checkSample checks lists of all lengths, with few stations, among which rings are common, with
+// many ones, and with those that hang apart; it counts the kinds that check tells of the lists.
+func checkSample(t *testing.T, seed uint32, count int, check func(legs []impl.Leg) map[string]bool, kinds ...string) {
+	t.Helper()
+	n, counts := numbers{seed}, map[string]int{}
+	for i := range count {
 		legs := n.legsAmong(n.within(2, impl.MaxStations), n.within(0, impl.MaxLegs))
 		if i%3 == 0 {
 			legs = n.legsInTwoParts(n.within(0, impl.MaxLegs))
 		}
-		for kind, isSo := range kindsOf(legs, checkNetwork(t, legs)) {
+		for kind, isSo := range check(legs) {
 			if isSo {
 				counts[kind]++
 			}
 		}
 	}
-	for _, kind := range []string{"closing", "apart", "all three", "gone through again", "walked back", "twice"} {
+	for _, kind := range kinds {
 		if counts[kind] < 100 {
 			t.Errorf("only %d lists of the kind %q", counts[kind], kind)
 		}
 	}
+}
+
+func TestTreeLegsHaveNoError(t *testing.T) {
+	check := func(legs []impl.Leg) map[string]bool { return kindsOf(legs, checkNetwork(t, legs)) }
+	checkSample(t, 11, 1800, check, "closing", "apart", "all three", "gone through again", "walked back", "twice")
 }
 
 func kindsOf(legs []impl.Leg, net ruledNetwork) map[string]bool {
@@ -450,8 +456,8 @@ func kindsOf(legs []impl.Leg, net ruledNetwork) map[string]bool {
 	return kinds
 }
 
-// TestAllShortListsOfLegs has all lists of up to 4 Legs between the stations 0 to 3.
-func TestAllShortListsOfLegs(t *testing.T) {
+// allShortLists yields all lists of up to 4 Legs between the stations 0 to 3.
+func allShortLists(yield func([]impl.Leg) bool) {
 	pairs := [][2]int{{0, 1}, {0, 2}, {0, 3}, {1, 0}, {1, 2}, {1, 3}, {2, 0}, {2, 1}, {2, 3}, {3, 0}, {3, 1}, {3, 2}}
 	lists := 1
 	for count := range 5 {
@@ -461,14 +467,21 @@ func TestAllShortListsOfLegs(t *testing.T) {
 				chosen = append(chosen, pairs[number%len(pairs)])
 				number /= len(pairs)
 			}
-			legs := joined(chosen...)
-			net := ruledNetworkOf(legs)
-			checkPlaced(t, legs, net.placed()...)
-			checkTree(t, legs, net.tree...)
-			checkClosing(t, legs, net.closing...)
-			checkErrors(t, legs, net)
+			if !yield(joined(chosen...)) {
+				return
+			}
 		}
 		lists *= len(pairs)
+	}
+}
+
+func TestAllShortListsOfLegs(t *testing.T) {
+	for legs := range allShortLists {
+		net := ruledNetworkOf(legs)
+		checkPlaced(t, legs, net.placed()...)
+		checkTree(t, legs, net.tree...)
+		checkClosing(t, legs, net.closing...)
+		checkErrors(t, legs, net)
 	}
 }
 
@@ -669,27 +682,28 @@ func checkNoNetwork(t *testing.T, legs []impl.Leg) {
 	}
 }
 
-// TestListsThatAreNoLegsHaveNoNetwork has one invalid Leg alone, at each place of a chain, and
-// behind Legs that hang apart.
-func TestListsThatAreNoLegsHaveNoNetwork(t *testing.T) {
-	chain := legsBetween(0, 1, 2, 3, 0)
-	checkNetwork(t, chain)
+// spoiltLegLists have one invalid Leg: alone, in a ring and at each place of it, behind Legs that
+// hang apart, and behind as many as leave room for one.
+func spoiltLegLists() [][]impl.Leg {
+	ring, lists := legsBetween(0, 1, 2, 3, 0), [][]impl.Leg{}
 	for _, x := range spoiltLegs() {
-		checkNoNetwork(t, []impl.Leg{x})
-		checkNoNetwork(t, append(legsBetween(5, 6, 7), x))
-		for i := range chain {
-			list := slices.Clone(chain)
-			list[i] = x
-			checkNoNetwork(t, list)
+		lists = append(lists, []impl.Leg{x}, append(legsBetween(5, 6, 7), x), append(thereAndBack(impl.MaxLegs-1), x))
+		for i := range ring {
+			lists = append(lists, slices.Insert(slices.Clone(ring), i, x), slices.Replace(slices.Clone(ring), i, i+1, x))
 		}
-		full := thereAndBack(impl.MaxLegs)
-		full[impl.MaxLegs-1] = x
-		checkNoNetwork(t, full)
 	}
-	for i := range chain {
-		list := slices.Clone(chain)
+	for i := range ring {
+		list := slices.Clone(ring)
 		list[i].Tape = 501
-		checkNoNetwork(t, list)
+		lists = append(lists, list)
+	}
+	return lists
+}
+
+func TestListsThatAreNoLegsHaveNoNetwork(t *testing.T) {
+	checkNetwork(t, legsBetween(0, 1, 2, 3, 0))
+	for _, legs := range spoiltLegLists() {
+		checkNoNetwork(t, legs)
 	}
 	checkNoNetwork(t, thereAndBack(1000))
 }
